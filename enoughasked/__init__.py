@@ -1,0 +1,1 @@
+"""Enough asked, enough told: one thing kept by several machines."""
