@@ -3,6 +3,7 @@
 from enoughasked.changes import change
 from enoughasked.refusals import NOT_AS_TOLD, NOT_BEGUN
 from enoughasked.store import Store
+from enoughasked.telling import tell
 
 BEGIN = 0
 LAST_CHANGE = 10
@@ -22,7 +23,7 @@ class Line:
         if self.store is None:
             return [NOT_BEGUN]
         if number > LAST_CHANGE:
-            raise NotImplementedError(f"call {number} is not built yet")
+            return tell(self.store, number, given)
         return change(self.store, number, given)
 
     def begin(self, machines, customers, asked, told, on):

@@ -14,6 +14,7 @@ NAMES = (
 )
 ARGUMENTS = (5, 2, 1, 1, 1, 1, 1, 1, 1, 1, 1, 1, 1, 1, 1, 0, 0, 0, 0, 0, 0, 0)
 CHANGES = range(1, 11)
+TELLS = range(11, 22)
 MOST = 4294967295
 
 
@@ -75,8 +76,56 @@ def picture(thing):
     return thing
 
 
+class Talk:
+    """Calls made on one object one by one, each chosen by what it tells so far."""
+
+    def __init__(self, *begin):
+        self.line = Line()
+        self.called = []
+        self.answered = []
+        self.call("begin", *begin)
+
+    def call(self, name, *given):
+        """Make a call that belongs to the line of calls."""
+        answered = self.ask(name, *given)
+        self.called += [NAMES.index(name), *given]
+        self.answered.append(answered)
+        return answered
+
+    def ask(self, name, *given):
+        """Make a call that's left out of the line, for it changes nothing: one that tells, or is refused."""
+        return self.line.answer(NAMES.index(name), list(given))
+
+    def row(self):
+        return [self.ask("message", place) for place in range(self.ask("state")[6])]
+
+    def ops(self):
+        return [self.ask("op", number) for number in range(self.ask("state")[7])]
+
+    def come(self, kind, customer, machine):
+        """Deliver the last message under way of that kind, between those two."""
+        found = [place for place, told in enumerate(self.row()) if told[:3] == [kind, customer, machine]]
+        return self.call("deliver", found[-1])
+
+    def asks(self, customer, machines):
+        """Only these machines answer what that customer has just asked; the answer to the last."""
+        for machine in machines:
+            self.come(0, customer, machine)
+        return [self.come(1, customer, machine) for machine in machines][-1]
+
+    def tells(self, customer, machines):
+        """Only these machines hear what that customer has just told; the answer to the last."""
+        for machine in machines:
+            self.come(2, customer, machine)
+        return [self.come(3, customer, machine) for machine in machines][-1]
+
+    def as_one_line(self, case):
+        """All calls handed in at once are answered as they were one by one."""
+        case.assertEqual(apart(answers(list(self.called))), self.answered)
+
+
 def line_after(text):
-    """The object on which all rows were called, for what no call of point 1 or 2 answers."""
+    """The object on which all rows were called, for what is tested behind the calls."""
     line = Line()
     for row, numbers, due in rows(text):
         line.answer(numbers[0], numbers[1:])

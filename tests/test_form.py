@@ -3,7 +3,7 @@
 import unittest
 
 from enoughasked.keepers import answers
-from helper import ARGUMENTS, CHANGES, MOST, NAMES, apart, check, flat, play
+from helper import ARGUMENTS, CHANGES, MOST, NAMES, TELLS, apart, check, flat, play
 
 
 class Untouched(list):
@@ -29,6 +29,17 @@ TOUR = """
     alone 0
     quit 1
     quit 1 = -16
+    message 0
+    machine 0
+    customer 1
+    op 0
+    kept
+    why
+    order
+    since
+    now
+    safe
+    state
 """
 
 
@@ -45,6 +56,26 @@ class TheForm(unittest.TestCase):
 
     def test_a_refusal_is_its_number_alone(self):
         self.assertEqual(answers(flat("begin 1 1 1 1 1\nalone 0\ndeliver 0")), [1, 0, 1, -16, 1, -2])
+        self.assertEqual(answers([0, 1, 1, 1, 1, 1, 11, 0, 12, 1, 13, 1, 14, 0]), [1, 0] + [1, -2] * 4)
+
+    def test_how_many_numbers_those_that_tell_answer(self):
+        # One machine, one customer, who asks for a writing of 7 at the time 1.
+        calls = [0, 1, 1, 1, 1, 1, 1, 0, 7, 11, 0, 12, 0, 13, 0, 14, 0, 15, 16, 17, 18, 19, 20, 21]
+        self.assertEqual(answers(calls), [
+            1, 0, 1, 0,
+            7, 0, 0, 0, 0, 0, 0, 0,
+            4, 1, 0, 0, 0,
+            6, 1, 0, 0, 0, 0, 0,
+            5, 1, 0, 7, 1, 0,
+            1, 1, 1, 0, 1, 0, 1, 0, 2, 1, 0, 1, 1,
+            8, 1, 1, 1, 1, 1, 1, 1, 1,
+        ])
+
+    def test_how_many_numbers_where_moments_cannot_be_found(self):
+        # Two machines, one asked and one told: 7 is written to the one, then the other is asked.
+        calls = [0, 2, 2, 1, 1, 0, 6, 1, 1, 0, 7, 10, 0, 6, 0, 7, 1, 2, 1, 10, 1]
+        due = [1, 0, 1, 0, 1, 0, 2, 6, 1, 1, 0, 1, 0, 1, 1, 2, 3, 1]
+        self.assertEqual(answers(calls + [15, 16, 17, 18]), due + [1, 0, 3, 3, 0, 1, 1, -33, 1, 7])
 
     def test_only_whole_numbers_are_given_back(self):
         given_back = answers(flat(TOUR))
@@ -95,8 +126,8 @@ class AheadOfABegin(unittest.TestCase):
             write 0 1 = 0
         """)
 
-    def test_none_of_the_changes_is_not_begun_afterwards(self):
-        for number in CHANGES:
+    def test_none_of_the_others_is_not_begun_afterwards(self):
+        for number in [*CHANGES, *TELLS]:
             call = " ".join([NAMES[number]] + ["0"] * ARGUMENTS[number])
             self.assertNotEqual(play(f"begin 1 1 1 1 1\n{call}")[1], [-11], call)
 
